@@ -36,7 +36,7 @@ func next(text []byte, i int) (Token, api.Errno) {
 	return t, api.OK
 }
 
-// span tells what kind of token comes first at the place i or behind it, where it begins and where it ends; no kind, where none begins. Whether the token is faulty is not asked here, but for what its first bytes say of its kind.
+// span tells what kind of token comes first at the place i or behind it, where it begins and where it ends; no kind, where none begins. Whether the token is faulty is not asked here.
 func span(text []byte, i int) (kind, at, end int) {
 blank:
 	if at = i; i == len(text) {
@@ -55,7 +55,10 @@ blank:
 	case c == '"':
 		goto quoted
 	}
-	goto mark
+	if size := markSize(text[i:]); size > 0 {
+		return Mark, at, i + size
+	}
+	return 0, at, at
 comment:
 	if i++; i < len(text) && text[i] != '\n' {
 		goto comment
@@ -70,6 +73,7 @@ number:
 	if i++; isDigit(byteAt(text, i)) {
 		goto number
 	}
+	// With a p behind it it can be a real alone: no int is followed at once by a letter.
 	if byteAt(text, i) != 'p' {
 		return Int, at, i
 	}
@@ -92,11 +96,6 @@ quoted:
 escaped:
 	i++
 	goto quoted
-mark:
-	if size := markSize(text[i:]); size > 0 {
-		return Mark, at, i + size
-	}
-	return 0, at, at
 }
 
 // byteAt is the byte at the place i, or 0, which goes on with no token, behind the end.
