@@ -119,14 +119,12 @@ type watched struct {
 	there map[int]bool
 }
 
-//go:noinline
 func (w watched) put(id int) {
 	x := &[64]int{id}
 	w.weak[id] = weak.Make(x)
 	w.there[id] = w.q.Put(id, x) == api.OK
 }
 
-//go:noinline
 func (w watched) take(id int) {
 	if x, fault := w.q.Take(id); fault != api.OK || x[0] != id {
 		panic("take")
